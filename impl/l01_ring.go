@@ -45,6 +45,15 @@ func isElement(q int64, v int64) bool {
 	return v >= 0 && v < q
 }
 
+func elementsFault(q int64, list []int64) int64 {
+	for _, v := range list {
+		if !isElement(q, v) {
+			return ErrRange
+		}
+	}
+	return OK
+}
+
 func elementOf(q int64, v int64) element[uint16] {
 	return element[uint16]{q: uint16(q), value: uint16(v)}
 }
@@ -142,10 +151,8 @@ func FromBits(bits []int64) IntResult {
 	if len(bits) != Bits {
 		return IntResult{Code: ErrMany}
 	}
-	for _, bit := range bits {
-		if !isElement(bitRing, bit) {
-			return IntResult{Code: ErrRange}
-		}
+	if fault := elementsFault(bitRing, bits); fault != OK {
+		return IntResult{Code: fault}
 	}
 	// From the highest on: each bit behind it doubles what is there already.
 	sum := elementOf(Ring, 0)
