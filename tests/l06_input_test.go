@@ -825,12 +825,10 @@ func TestInputsAreNewMemory(t *testing.T) {
 	}
 }
 
-// Lists of the arguments may be one memory; those of an answer never are.
-func TestNoTwoListsOfAnInputShareMemory(t *testing.T) {
-	one := []int64{0, 0, 0, 0}
-	lists := [][]int64{one, one, one, one}
-	n := impl.Net{Tape: impl.Tape{Lanes: lists}, Used: one, Heard: lists, Cheat: impl.Cheat{Who: 3, At: 2, By: 3, Cry: true}}
-	for i, answer := range inputAnswers(n, impl.Mirror{Q: 256, Views: lists}, one) {
+// wantListsApart asks that no two lists of one answer share memory; it writes over them.
+func wantListsApart(t *testing.T, answers []impl.ManyResult) {
+	t.Helper()
+	for i, answer := range answers {
 		if answer.Code != impl.OK {
 			t.Fatalf("answer %d: %v", i, answer)
 		}
@@ -853,6 +851,14 @@ func TestNoTwoListsOfAnInputShareMemory(t *testing.T) {
 			}
 		}
 	}
+}
+
+// Lists of the arguments may be one memory; those of an answer never are.
+func TestNoTwoListsOfAnInputShareMemory(t *testing.T) {
+	one := []int64{0, 0, 0, 0}
+	lists := [][]int64{one, one, one, one}
+	n := impl.Net{Tape: impl.Tape{Lanes: lists}, Used: one, Heard: lists, Cheat: impl.Cheat{Who: 3, At: 2, By: 3, Cry: true}}
+	wantListsApart(t, inputAnswers(n, impl.Mirror{Q: 256, Views: lists}, one))
 	if !slices.Equal(one, []int64{0, 0, 0, 0}) {
 		t.Errorf("an answer shares memory with an argument: %v", one)
 	}

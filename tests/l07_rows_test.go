@@ -519,10 +519,10 @@ func TestRowsOfViewsThatDontAgree(t *testing.T) {
 	}
 }
 
-// endOfRows is how many rows, and pairs of the next one, a layer goes through if one cheats, and whether that ends in a quarrel.
-func endOfRows(c impl.Cheat, sent int64, rows int) (int, int, bool) {
+// endOfRows is how many rows, and pairs of the next one, are gone through if one cheats, and whether that ends in a quarrel.
+func endOfRows(c impl.Cheat, sent int64, q int64, rows int) (int, int, bool) {
 	for i := range rows {
-		if pairs, quarrel := endOfDot(c, sent+int64(12*i), 256); quarrel {
+		if pairs, quarrel := endOfDot(c, sent+int64(12*i), q); quarrel {
 			return i, pairs, true
 		}
 	}
@@ -534,7 +534,7 @@ func wantLayerOrQuarrel(t *testing.T, n impl.Net, l layer) {
 	t.Helper()
 	got := l.mirrors(n)
 	wantMany(t, "RowsMirror", got, rowsByHand(n, l))
-	rows, pairs, quarrel := endOfRows(n.Cheat, n.Sent, len(l.biases))
+	rows, pairs, quarrel := endOfRows(n.Cheat, n.Sent, 256, len(l.biases))
 	wantCostOfRows(t, n, got.Net, rows, pairs)
 	if got.Net.Quarrel.Some != quarrel {
 		t.Fatalf("%v: quarrel %v", n.Cheat, got.Net.Quarrel)
@@ -1109,29 +1109,7 @@ func TestNoTwoListsOfRowsShareMemory(t *testing.T) {
 	one := []int64{0, 0, 0, 0}
 	lists := [][]int64{one, one, one, one}
 	n := impl.Net{Tape: impl.Tape{Lanes: lists}, Used: one, Heard: lists, Cheat: impl.Cheat{Who: 3, At: 2, By: 3, Cry: true}}
-	for i, answer := range rowAnswers(n, impl.Mirror{Q: 256, Views: lists}) {
-		if answer.Code != impl.OK {
-			t.Fatalf("answer %d: %v", i, answer)
-		}
-		for j, list := range manyLists(answer) {
-			kept := cloneLists(manyLists(answer))
-			spoilList(list)
-			for k, other := range manyLists(answer) {
-				if k != j && !slices.Equal(other, kept[k]) {
-					t.Errorf("answer %d: lists %d and %d share memory", i, j, k)
-				}
-			}
-		}
-		// The lists of views are no one list either.
-		for j, m := range answer.Mirrors {
-			clear(m.Views[:cap(m.Views)])
-			for k, other := range answer.Mirrors[j+1:] {
-				if len(other.Views) == 0 || other.Views[0] == nil {
-					t.Errorf("answer %d: the views of mirrors %d and %d are one list", i, j, j+1+k)
-				}
-			}
-		}
-	}
+	wantListsApart(t, rowAnswers(n, impl.Mirror{Q: 256, Views: lists}))
 	if !slices.Equal(one, []int64{0, 0, 0, 0}) {
 		t.Errorf("an answer shares memory with an argument: %v", one)
 	}
