@@ -812,23 +812,28 @@ func TestTheSignOfViewsThatDontAgree(t *testing.T) {
 	}
 }
 
-// wantSignOrQuarrel asks of a sign what is promised, whoever cheats.
-func wantSignOrQuarrel(t *testing.T, n impl.Net, m impl.Mirror) {
+// wantWorthOrQuarrel asks of a mirror that so many rows, and pairs of the next one, make what is promised, whoever cheats.
+func wantWorthOrQuarrel(t *testing.T, n impl.Net, got impl.MixResult, v int64, rows int, pairs int, quarrel bool) {
 	t.Helper()
-	got := impl.SignBit(n, m)
-	rows, pairs, quarrel := endOfRows(n.Cheat, n.Sent, 2, signCarries)
 	wantCostOfRows(t, n, got.Net, rows, pairs)
 	if got.Code != impl.OK || got.Net.Quarrel.Some != quarrel {
 		t.Fatalf("%v: code %d, quarrel %v", n.Cheat, got.Code, got.Net.Quarrel)
 	}
 	if !quarrel {
-		wantInt(t, "ValueOf", impl.ValueOf(got.Mirror, -1), value(isBelow(worth(m, -1))))
+		wantInt(t, "ValueOf", impl.ValueOf(got.Mirror, -1), value(v))
 		return
 	}
 	if got.Mirror.Q != 0 || len(got.Mirror.Views) != 0 {
 		t.Errorf("%v: a mirror in a quarrel: %v", n.Cheat, got.Mirror)
 	}
 	wantToldApart(t, got.Net)
+}
+
+// wantSignOrQuarrel asks of a sign what is promised, whoever cheats.
+func wantSignOrQuarrel(t *testing.T, n impl.Net, m impl.Mirror) {
+	t.Helper()
+	rows, pairs, quarrel := endOfRows(n.Cheat, n.Sent, 2, signCarries)
+	wantWorthOrQuarrel(t, n, impl.SignBit(n, m), isBelow(worth(m, -1)), rows, pairs, quarrel)
 }
 
 // Each of the four, at each message of each of the three sums, ahead of the first one and behind the last one.
